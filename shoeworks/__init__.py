@@ -1,0 +1,1 @@
+"""A shoemaker's: sizes, lasts, hides and orders."""
