@@ -1,6 +1,7 @@
 """A line of calls, and what they answer."""
 
-from shoeworks.history import History
+from shoeworks.history import History, go_through_history
+from shoeworks.questions import ask
 from shoeworks.shop import copied_shop
 from shoeworks.sizes import ask_sizes
 from shoeworks.stock import change_stock
@@ -8,7 +9,7 @@ from shoeworks.work import change_work
 
 # By its number each call's name, how many numbers stand behind it, its kind.
 CALLS = (
-    ("cb_start", 0, "start"),
+    ("cb_start", 0, "history"),
     ("cb_system", 2, "stock"),
     ("cb_last", 3, "stock"),
     ("cb_feet", 3, "stock"),
@@ -24,12 +25,23 @@ CALLS = (
     ("cb_turn", 3, "sizes"),
     ("cb_long", 2, "sizes"),
     ("cb_near", 2, "sizes"),
+    ("cb_which", 1, "questions"),
+    ("cb_size", 2, "questions"),
+    ("cb_fit", 2, "questions"),
+    ("cb_takes", 1, "questions"),
+    ("cb_plan", 1, "questions"),
+    ("cb_free", 1, "questions"),
+    ("cb_soon", 1, "questions"),
+    ("cb_left", 1, "questions"),
+    ("cb_from", 1, "questions"),
+    ("cb_stage", 1, "questions"),
+    ("cb_uncut", 0, "questions"),
+    ("cb_leather", 0, "questions"),
+    ("cb_lasts", 0, "questions"),
+    ("cb_back", 0, "history"),
+    ("cb_again", 0, "history"),
+    ("cb_state", 0, "history"),
 )
-
-
-def start(history):
-    history.start_anew()
-    return [0]
 
 
 # A change is made to a copy, which is dropped if the call is refused: so a
@@ -43,10 +55,12 @@ def change(history, name, row, kind):
 
 
 def answer_call(history, name, row, kind):
-    if kind == "start":
-        return start(history)
+    if kind == "history":
+        return go_through_history(history, name)
     if kind == "sizes":
         return ask_sizes(history.shop, name, row)
+    if kind == "questions":
+        return ask(history.shop, name, row)
     return change(history, name, row, kind)
 
 

@@ -8,7 +8,10 @@ def last_fits(last, feet):
     return last.length >= longer + ROOM_AHEAD and last.wide >= feet.wide
 
 
+def all_that_fit(lasts, feet):
+    return [n for n, last in enumerate(lasts) if last_fits(last, feet)]
+
+
 # None where no last fits.
 def smallest_that_fits(lasts, feet):
-    fitting = [n for n, last in enumerate(lasts) if last_fits(last, feet)]
-    return min(fitting, key=lambda n: (lasts[n].length, lasts[n].wide, n), default=None)
+    return min(all_that_fit(lasts, feet), key=lambda n: (lasts[n].length, lasts[n].wide, n), default=None)

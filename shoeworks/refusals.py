@@ -1,6 +1,7 @@
 """The numbers that refused calls answer."""
 
 NONE_THERE = -2
+NOT_CUT = -6
 NOT_ENOUGH = -12
 TOO_EARLY = -13
 WRONG_STAGE = -16

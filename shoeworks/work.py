@@ -1,14 +1,14 @@
 """The calls that tell an order and bring it on, and the one that lets days go by."""
 
 from shoeworks.fitting import smallest_that_fits
-from shoeworks.leather import best_plan, cuts_into, leather_left, leather_taken, whole_hides
+from shoeworks.lasting import comes_off_from, free_pairs
+from shoeworks.leather import leather_left, leather_taken
+from shoeworks.planning import cb_plan, uncut_among
 from shoeworks.refusals import CUT_ALREADY, NONE_FITS, NONE_THERE, NOT_AS_TOLD, NOT_ENOUGH
 from shoeworks.refusals import TOO_EARLY, TOO_MANY, WRONG_STAGE
 from shoeworks.shop import CUT, FINISHED, OFF_LAST, ON_LAST, TOLD, Order
 
 MOST_ORDERS = 10
-MOST_PLANNED = 4
-DAYS_ON_LAST = 3
 LAST_DAY = 10000
 
 
@@ -39,15 +39,6 @@ def cb_cut(shop, k, h):
         return [NOT_ENOUGH]
     cut_out_of(order, h)
     return [leather_left(shop, h)]
-
-
-def free_pairs(shop, number):
-    on_it = [order for order in shop.orders if order.stage == ON_LAST and order.last == number]
-    return shop.lasts[number].pairs - len(on_it)
-
-
-def comes_off_from(order):
-    return order.since + DAYS_ON_LAST
 
 
 def cb_put(shop, k):
@@ -91,24 +82,13 @@ def cb_finish(shop, k):
     return [len([order for order in shop.orders if order.stage == FINISHED])]
 
 
-def uncut_among(shop, bits):
-    return [k for k, order in enumerate(shop.orders) if (bits >> k) & 1 == 1 and order.stage == TOLD]
-
-
+# The plan's refusals are this call's too. Hides stand behind its first two
+# numbers: a refusal has none, and zip leaves out the zeros behind the orders'.
 def cb_take(shop, bits):
-    if bits >> len(shop.orders) != 0:
-        return [NOT_AS_TOLD]
-    numbers = uncut_among(shop, bits)
-    if len(numbers) > MOST_PLANNED:
-        return [TOO_MANY]
-    plan = best_plan(shop, numbers)
-    if plan is None:
-        return [NONE_FITS]
-    # Counted ahead of the cutting, behind which these hides are no longer whole.
-    newly_cut = cuts_into(plan, whole_hides(shop))
-    for k, h in zip(numbers, plan):
+    told = cb_plan(shop, bits)
+    for k, h in zip(uncut_among(shop, bits), told[2:]):
         cut_out_of(shop.orders[k], h)
-    return [newly_cut]
+    return told[:1]
 
 
 def change_work(shop, name, row):

@@ -1,10 +1,10 @@
 """Point 4: coming off lasts, finishing, cutting by a plan."""
 
-import itertools
 import random
 import unittest
 
 from tests.lines import FEET, LAST, WIDEST, last_of, run, shop_with, style
+from tests.trials import cut_by_chance, left_behind, plan_by_trial
 
 
 class ComingOff(unittest.TestCase):
@@ -25,7 +25,8 @@ class ComingOff(unittest.TestCase):
         self.assertEqual(run(*calls, ("cb_off", 1), ("cb_off", 0))[-2:], [[-13], [0]])
 
     def test_not_from_day_9998_on(self):
-        calls = shop_with([100], [1, 1]) + [("cb_take", 3), ("cb_day", 9997), ("cb_put", 0), ("cb_day", 1), ("cb_put", 1)]
+        calls = shop_with([100], [1, 1]) + [("cb_take", 3), ("cb_day", 9997), ("cb_put", 0)]
+        calls.extend([("cb_day", 1), ("cb_put", 1)])
         self.assertEqual(run(*calls, ("cb_day", 2), ("cb_off", 0), ("cb_off", 1))[-3:], [[10000], [0], [-13]])
 
     def test_tells_the_last(self):
@@ -58,18 +59,6 @@ class Finishing(unittest.TestCase):
             self.assertEqual(last_of(*calls, ("cb_finish", 0)), [-16], later)
             calls.append(later)
         self.assertEqual(run(*calls, ("cb_finish", 0), ("cb_finish", 0))[-2:], [[1], [-16]])
-
-
-def plan_by_trial(left, whole, takes):
-    """The plan, found by trying all; the way of the document's words."""
-    best = None
-    for plan in itertools.product(range(len(left)), repeat=len(takes)):
-        given = [sum(t for t, h in zip(takes, plan) if h == hide) for hide in range(len(left))]
-        if all(g <= had for g, had in zip(given, left)):
-            cost = len({h for h in plan if whole[h]})
-            if best is None or cost < best[0]:
-                best = (cost, plan)
-    return best
 
 
 def how_many(calls, name):
@@ -184,25 +173,16 @@ class Taking(unittest.TestCase):
     def test_as_by_trial_of_all_plans(self):
         chance = random.Random(58)
         for round_number in range(150):
-            hides = [chance.randint(5, 40) for h in range(chance.randint(1, 5))]
-            sizes = [chance.randint(1, 20) for kind in range(3)]
-            areas = [chance.choice(sizes) for k in range(chance.randint(1, 6))]
-            left, cut = list(hides), []
-            for k in range(len(areas)):
-                h = chance.randrange(len(hides))
-                if (chance.random() < 0.4 or k >= 4) and left[h] >= areas[k]:
-                    left[h] -= areas[k]
-                    cut.append((k, h))
+            hides, areas, cut = cut_by_chance(chance, 6)
             named = [k for k in range(len(areas)) if k not in dict(cut)]
             if len(named) > 4:
                 continue
-            best = plan_by_trial(left, [a == b for a, b in zip(left, hides)], [areas[k] for k in named])
+            best = plan_by_trial(hides, areas, cut, named)
             told = self.take(hides, areas, cut)
             if best is None:
-                self.assertEqual(told, ([-33], left))
+                self.assertEqual(told, ([-33], left_behind(hides, areas, cut)))
                 continue
-            for k, h in zip(named, best[1]):
-                left[h] -= areas[k]
+            left = left_behind(hides, areas, cut + list(zip(named, best[1])))
             self.assertEqual(told, ([best[0]], left), (hides, areas, cut))
 
 
